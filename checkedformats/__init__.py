@@ -1,0 +1,1 @@
+"""Formats checked against their arguments, and rendered."""
