@@ -1,7 +1,10 @@
 """The desk: a list of calls on one new object goes in, the list of their answers comes out."""
 
-from checkedformats.formats import read_format
-from checkedformats.refusals import NoFormat, WrongFormat
+from checkedformats.directives import own_kind
+from checkedformats.formats import least_difference, read_format
+from checkedformats.misuse import first_misuse
+from checkedformats.refusals import NoDirective, NoFormat, WrongAmount, WrongArguments, WrongFormat
+from checkedformats.rendering import render
 
 
 class Desk:
@@ -57,12 +60,48 @@ def answer_highest(desk, reader):
 
 
 def answer_kind(desk, reader):
-    # The number is taken even if the call is refused: the next call begins behind it.
+    # Here and below, what is handed in is taken even if the call is refused: the next call begins behind it.
     argument = reader.take()
     return [0, desk.held().kind_of(argument)]
 
 
-ANSWERERS = {1: answer_parse, 2: answer_write, 3: answer_count, 4: answer_highest, 5: answer_kind}
+def answer_directive(desk, reader):
+    index = reader.take()
+    directive = desk.held().directive_at(index)
+    taken = [directive.argument, directive.width.argument, directive.precision.argument]
+    return [0, directive.place, directive.size] + taken + [own_kind(directive)]
+
+
+def answer_check(desk, reader):
+    kinds = reader.take_row()
+    misuse = first_misuse(desk.held(), kinds)
+    return [0, 0] if misuse is None else [0] + list(misuse)
+
+
+def answer_same(desk, reader):
+    row = reader.take_row()
+    original = desk.held()
+    return [0, least_difference(original, read_format(row))]
+
+
+def answer_render(desk, reader):
+    arguments = reader.take_row()
+    pool = reader.take_row()
+    text = render(desk.held(), arguments, pool)
+    return [0, len(text)] + text
+
+
+ANSWERERS = {
+    1: answer_parse,
+    2: answer_write,
+    3: answer_count,
+    4: answer_highest,
+    5: answer_kind,
+    6: answer_directive,
+    7: answer_check,
+    8: answer_same,
+    9: answer_render,
+}
 
 
 def answer_call(desk, reader):
@@ -74,6 +113,12 @@ def answer_call(desk, reader):
         return [-9]
     except WrongFormat as fault:
         return [-1, fault.place]
+    except WrongArguments:
+        return [-1]
+    except NoDirective:
+        return [-2]
+    except WrongAmount:
+        return [-3]
 
 
 def answers(calls):

@@ -21,10 +21,11 @@ class Amount:
 
 
 class Directive:
-    """One directive, part by part, and where its percent sign stands."""
+    """One directive, part by part, where its percent sign stands and how many bytes it has."""
 
     def __init__(self, place):
         self.place = place
+        self.size = 0
         self.by_number = False
         self.argument = 0
         self.flags = []

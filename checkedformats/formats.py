@@ -1,7 +1,7 @@
 """Whole formats: reading them, and what they tell of their arguments."""
 
 from checkedformats.directives import stars, taken_pairs
-from checkedformats.refusals import WrongFormat
+from checkedformats.refusals import NoDirective, WrongFormat
 from checkedformats.rules import is_right
 from checkedformats.scanning import HIGHEST_ARGUMENT, Scanner, scan_directive
 from checkedformats.signs import PERCENT
@@ -23,6 +23,11 @@ class Format:
     def kind_of(self, argument):
         return self.kinds.get(argument, 0)
 
+    def directive_at(self, index):
+        if index >= len(self.directives):
+            raise NoDirective()
+        return self.directives[index]
+
 
 def read_format(row):
     """The format that these bytes spell; WrongFormat tells its first wrong directive."""
@@ -34,18 +39,17 @@ def read_format(row):
         elif row[at + 1:at + 2] == [PERCENT]:
             at += 2
         else:
-            at = read_directive(found, at)
+            directive = read_directive(row, at)
+            add_directive(found, directive)
+            at += directive.size
     return found
 
 
-def read_directive(found, place):
-    """Read the directive at this place into the format; gives back the place behind it."""
-    scanner = Scanner(found.row, place)
-    directive = scan_directive(scanner)
+def read_directive(row, place):
+    directive = scan_directive(Scanner(row, place))
     if not is_right(directive):
         raise WrongFormat(place)
-    add_directive(found, directive)
-    return scanner.at
+    return directive
 
 
 def add_directive(found, directive):
@@ -74,3 +78,11 @@ def number_in_order(found, directive):
         argument += 1
         amount.argument = argument
     directive.argument = argument + 1
+
+
+def least_difference(one, other):
+    """The least argument that two formats don't take alike, 0 if there is none."""
+    for argument in range(1, HIGHEST_ARGUMENT + 1):
+        if one.kind_of(argument) != other.kind_of(argument):
+            return argument
+    return 0

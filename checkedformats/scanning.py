@@ -139,4 +139,5 @@ def scan_directive(scanner):
     directive.precision = scan_precision(scanner)
     directive.length = scan_length(scanner)
     directive.conversion = scan_conversion(scanner)
+    directive.size = scanner.at - scanner.place
     return directive

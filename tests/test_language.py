@@ -19,11 +19,11 @@ EXPRESSIONS = (
     ast.Attribute, ast.Subscript, ast.Slice, ast.ListComp, ast.comprehension, ast.Name, ast.expr_context, ast.operator,
     ast.unaryop, ast.boolop, ast.cmpop,
 )
-BUILTINS_USED = {"len", "range", "min", "max", "list", "Exception"}
+BUILTINS_USED = {"len", "range", "enumerate", "reversed", "min", "max", "abs", "list", "Exception"}
 METHODS_USED = {"append", "extend", "get"}
 BANNED_WORDS = re.compile(
-    r"\b(type|typing|enum|Enum|Flag|Generic|Protocol|ABC|namedtuple|NamedTuple|TypedDict)\b"
-    r"|dataclass|overload|contextmanager"
+    r"\b(type|typing|typing_extensions|enum|Enum|IntEnum|StrEnum|Flag|IntFlag|Generic|Protocol|ABC|ABCMeta"
+    r"|namedtuple|NamedTuple|TypedDict|TYPE_CHECKING|abstractmethod)\b|dataclass|overload|contextmanager"
 )
 
 
@@ -87,6 +87,49 @@ class Language(unittest.TestCase):
                 self.assertNotIsInstance(node.op, (ast.Div, ast.Pow, ast.MatMult), name)
             if isinstance(node, (ast.For, ast.While)):
                 self.assertEqual(node.orelse, [], name)
+
+    def test_methods_and_values_of_objects_have_names_of_their_own(self):
+        methods = {node.name for _, tree in nodes() if isinstance(tree, ast.ClassDef) for node in tree.body
+                   if isinstance(node, ast.FunctionDef)}
+        values = {node.attr for _, node in nodes() if isinstance(node, ast.Attribute)
+                  and isinstance(node.ctx, ast.Store)}
+        self.assertEqual(methods & values, set())
+        taken = {name for owner in (str, int, list, tuple, dict, set, bytes, Exception) for name in dir(owner)}
+        self.assertEqual((methods | values) & taken, {"__init__"})
+
+    def test_the_top_of_a_file(self):
+        for name, tree in trees():
+            for node in tree.body[1:]:
+                self.assertIsInstance(node, (ast.ImportFrom, ast.FunctionDef, ast.ClassDef, ast.Assign), name)
+                if isinstance(node, ast.Assign) and node.targets[0].id != "ANSWERERS":
+                    ast.literal_eval(node.value)
+
+    def test_names_are_bound_once_and_plain(self):
+        for name, tree in trees():
+            bound = []
+            for node in tree.body:
+                if isinstance(node, ast.Assign):
+                    bound.extend(target.id for target in node.targets)
+                elif isinstance(node, ast.ImportFrom):
+                    bound.extend(alias.asname or alias.name for alias in node.names)
+                elif isinstance(node, (ast.FunctionDef, ast.ClassDef)):
+                    bound.append(node.name)
+            self.assertEqual(len(bound), len(set(bound)), name)
+            local = {node.id for node in ast.walk(tree) if isinstance(node, ast.Name)
+                     and isinstance(node.ctx, ast.Store)} - {node.targets[0].id for node in tree.body
+                                                             if isinstance(node, ast.Assign)}
+            local |= {node.arg for node in ast.walk(tree) if isinstance(node, ast.arg)}
+            self.assertEqual(local & set(bound), set(), name)
+            for word in local | set(bound):
+                self.assertRegex(word, r"^[A-Za-z][A-Za-z0-9_]*$", name)
+
+    def test_no_two_files_draw_from_one_another(self):
+        drawn = {path.stem: {node.module.partition(".")[2] for node in ast.walk(ast.parse(path.read_text("utf-8")))
+                             if isinstance(node, ast.ImportFrom)} for path in FILES}
+        while drawn:
+            free = [name for name, others in drawn.items() if not others & set(drawn)]
+            self.assertNotEqual(free, [], drawn)
+            drawn = {name: others for name, others in drawn.items() if name not in free}
 
 
 if __name__ == "__main__":

@@ -72,6 +72,15 @@ class Parts(ParseCase):
                     with self.subTest(row=row):
                         self.assertEqual(ask([1, len(row)] + row), [[-1, 0]])
 
+    def test_every_byte_that_begins_no_part(self):
+        for byte in set(range(256)) - set(b"%-+ 0#123456789*.hljz") - set(CONVERSIONS.encode()):
+            sign = chr(byte)
+            for text in ("%" + sign + "d", "%1" + sign + "d", "%." + sign + "d", "%.1" + sign + "d",
+                         "%" + sign + "$d", "%1$" + sign + "d", "%1$*" + sign + "$d", "%h" + sign + "d"):
+                if text != "%1$d":
+                    with self.subTest(text=text):
+                        self.assertEqual(parsed(text), [-1, 0])
+
     def test_each_flag(self):
         self.taken("%-d", "%+d", "% d", "%0d", "%#x")
         self.taken("%-c", "%-s", "%-5s", "%-u")
